@@ -1,0 +1,1 @@
+"""What fairness costs: how much is gained at most, freely and by each kind of fairness."""
