@@ -2,7 +2,7 @@
 
 from faircosts.orders import FREELY, SAME_BOTH, chances_for, stops_for
 from faircosts.people import gains_of, others_of, so_of
-from faircosts.ratios import divided, less, minus, plus, ratio, times, unsigned, weighed, whole
+from faircosts.ratios import divided, less, mean, minus, plus, ratio, times, unsigned, weighed, whole
 
 
 def marks_for(kind, groups, pays):
@@ -16,8 +16,7 @@ def marks_for(kind, groups, pays):
 
 def most_right(cells, pays, x):
     """The y of the most for x in a group."""
-    chances = chances_for(SAME_BOTH, cells, pays, x)
-    return divided(weighed(chances, so_of(cells)), whole(sum(so_of(cells))))
+    return mean(chances_for(SAME_BOTH, cells, pays, x), so_of(cells))
 
 
 def right_in_both(groups, pays, x):

@@ -1,9 +1,10 @@
 """What each call answers: a list of its numbers; a refusal is its number alone."""
 
 from faircosts.best import gained, most_of, part_of
-from faircosts.orders import FREELY, SAME_BOTH
+from faircosts.orders import FREELY, SAME_BOTH, SAME_PART, SAME_RIGHT, chances_for
 from faircosts.people import sizes_of, somebody_lacks
-from faircosts.ratios import divided, ratio, weighed, whole
+from faircosts.ratios import mean, minus, ratio
+from faircosts.rules import met, rules_of
 
 BEGIN = 0
 
@@ -26,8 +27,28 @@ def no_cell(people, group, score):
     return no_group(group) or score >= people.scores
 
 
+def no_kind(kind):
+    return kind > SAME_BOTH
+
+
+def no_pays(gain, loss):
+    return gain > MOST_PAY or loss > MOST_PAY
+
+
+def no_lower(lower):
+    return lower < 1 or lower > MOST_LOWER
+
+
 def told(fraction):
     return [0, fraction[0], fraction[1]]
+
+
+def row_of(fractions):
+    """The numbers of all the fractions, one behind another."""
+    row = []
+    for fraction in fractions:
+        row.extend([fraction[0], fraction[1]])
+    return row
 
 
 def begin(people, given):
@@ -59,11 +80,9 @@ def cell(people, given):
 
 
 def pays(people, given):
-    gain = given[0]
-    loss = given[1]
-    if gain > MOST_PAY or loss > MOST_PAY:
+    if no_pays(given[0], given[1]):
         return [NOT_RIGHT]
-    people.pays = (gain, loss)
+    people.pays = (given[0], given[1])
     return [0]
 
 
@@ -79,7 +98,7 @@ def chances(people, given):
     row = given[3:]
     if no_group(group):
         return [NO_SUCH]
-    if lower < 1 or lower > MOST_LOWER or not right_row(people, lower, row):
+    if no_lower(lower) or not right_row(people, lower, row):
         return [NOT_RIGHT]
     people.chances[group] = [ratio(upper, lower) for upper in row]
     return [0]
@@ -99,36 +118,115 @@ def picked(people, given):
     sizes = sizes_of(people.groups[group])
     if sum(sizes) == 0:
         return [LACKING]
-    return told(divided(weighed(people.chances[group], sizes), whole(sum(sizes))))
+    return told(mean(people.chances[group], sizes))
+
+
+def refusal(people, wrong):
+    """What refuses a call that asks about kinds, none if nothing does; that somebody is lacking comes last."""
+    if wrong:
+        return [NOT_RIGHT]
+    if somebody_lacks(people.groups):
+        return [LACKING]
+    return []
 
 
 def most(people, given):
     kind = given[0]
-    if kind > SAME_BOTH:
-        return [NOT_RIGHT]
-    if somebody_lacks(people.groups):
-        return [LACKING]
+    refused = refusal(people, no_kind(kind))
+    if refused != []:
+        return refused
     return told(most_of(kind, people.groups, people.pays))
 
 
 def part(people, given):
     kind = given[0]
-    if kind == FREELY or kind > SAME_BOTH:
-        return [NOT_RIGHT]
-    if somebody_lacks(people.groups):
-        return [LACKING]
+    refused = refusal(people, kind == FREELY or no_kind(kind))
+    if refused != []:
+        return refused
     return told(part_of(kind, people.groups, people.pays))
 
 
-# By their numbers; the calls with higher numbers are not built yet.
-BUILT = (begin, count, cell, pays, chances, gains, picked, most, part)
+def costs(people, given):
+    kind = given[0]
+    refused = refusal(people, no_kind(kind))
+    if refused != []:
+        return refused
+    freely = most_of(FREELY, people.groups, people.pays)
+    return told(minus(freely, most_of(kind, people.groups, people.pays)))
+
+
+def rule(people, given):
+    kind = given[0]
+    group = given[1]
+    if no_group(group):
+        return [NO_SUCH]
+    refused = refusal(people, no_kind(kind))
+    if refused != []:
+        return refused
+    rules = rules_of(kind, people.groups, people.pays)
+    return [people.scores] + row_of(rules[group])
+
+
+def take(people, given):
+    kind = given[0]
+    refused = refusal(people, no_kind(kind))
+    if refused != []:
+        return refused
+    people.chances = rules_of(kind, people.groups, people.pays)
+    return [0]
+
+
+def meets(people, given):
+    kind = given[0]
+    refused = refusal(people, no_kind(kind))
+    if refused != []:
+        return refused
+    return [1 if met(kind, people.groups, people.chances) else 0]
+
+
+def gained_for(people, given, kind):
+    """What a group gains when a part of it, as a kind measures parts, is chosen in the kind's order."""
+    group = given[0]
+    upper = given[1]
+    lower = given[2]
+    if no_group(group):
+        return [NO_SUCH]
+    refused = refusal(people, no_lower(lower) or upper > lower)
+    if refused != []:
+        return refused
+    cells = people.groups[group]
+    return told(gained(cells, chances_for(kind, cells, people.pays, ratio(upper, lower)), people.pays))
+
+
+def forpart(people, given):
+    return gained_for(people, given, SAME_PART)
+
+
+def forhits(people, given):
+    return gained_for(people, given, SAME_RIGHT)
+
+
+def ifpays(people, given):
+    kind = given[0]
+    refused = refusal(people, no_kind(kind) or no_pays(given[1], given[2]))
+    if refused != []:
+        return refused
+    return told(most_of(kind, people.groups, (given[1], given[2])))
+
+
+def state(people, given):
+    known = [people.scores, people.pays[0], people.pays[1]]
+    return known + row_of(people.chances[0]) + row_of(people.chances[1])
+
+
+# By their numbers.
+CALLS = (begin, count, cell, pays, chances, gains, picked, most, part, costs, rule, take, meets, forpart, forhits,
+         ifpays, state)
 
 
 def answer(people, number, given):
-    """The numbers that a call answers; none at all, if it is not built yet."""
+    """The numbers that a call answers."""
     if number != BEGIN and people.scores == 0:
         return [NOT_BEGUN]
-    if number >= len(BUILT):
-        return []
-    call = BUILT[number]
+    call = CALLS[number]
     return call(people, given)

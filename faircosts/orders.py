@@ -64,6 +64,13 @@ def chances_for(kind, cells, pays, x):
     return taken(order_for(kind, cells, pays), runs_for(kind, cells), x)
 
 
+def fewest_for(cells, x):
+    """The chances of the fewest for x."""
+    # Turned round, the order for the most would begin with the greater of like scores; this one does with the lesser.
+    order = steepest_first(cells, so_of(cells), others_of(cells))
+    return taken([score for score in order if cells[score][1] > 0], others_of(cells), x)
+
+
 def stops_for(kind, cells, pays):
     """How many of the run are chosen once none, one, two .. of the scores are, in their order."""
     runs = runs_for(kind, cells)

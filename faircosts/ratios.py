@@ -54,3 +54,8 @@ def weighed(fractions, weights):
     for fraction, weight in zip(fractions, weights):
         together = plus(together, times(fraction, whole(weight)))
     return together
+
+
+def mean(fractions, weights):
+    """The fractions' mean by their weights, some of which are above 0."""
+    return divided(weighed(fractions, weights), whole(sum(weights)))

@@ -78,8 +78,8 @@ def part_in_first(groups, chances, column):
     return Fraction(sum(column(cell) * chance for cell, chance in zip(cells, chances))) / sum(map(column, cells))
 
 
-def best(kind, groups, pays):
-    """What is gained at most by a kind, and the part that is told of it (None for kind 0)."""
+def top(kind, groups, pays):
+    """What is gained at most by a kind, then of kinds 1 and 2 -x, of kind 3 -x and y."""
     gains = gain_row(groups, pays)
     found = []
     for chances in corners(kind, groups):
@@ -89,7 +89,12 @@ def best(kind, groups, pays):
         others = part_in_first(groups, chances, lambda cell: cell[1])
         # The most gain, then the least x; for kind 3 then the most y.
         found.append({0: (gain,), 1: (gain, -size), 2: (gain, -so), 3: (gain, -others, so)}[kind])
-    top = max(found)
+    return max(found)
+
+
+def best(kind, groups, pays):
+    """What is gained at most by a kind, and the part that is told of it (None for kind 0)."""
+    found = top(kind, groups, pays)
     if kind == 0:
-        return top[0], None
-    return top[0], top[2] if kind == 3 else -top[1]
+        return found[0], None
+    return found[0], found[2] if kind == 3 else -found[1]

@@ -6,10 +6,9 @@ from itertools import product
 
 from tests import oracle
 from tests.asking import ask, ask_last, counts
+from tests.beside import Beside
+from tests.crowds import CROSS, TOP
 
-TOP = 4294967295
-# The mosts: group 0 by (0, 0), (1/5, 4/5), (1, 1), group 1 by (0, 1/2), (1, 1); they cross at (1/7, 4/7).
-CROSS = ([(8, 2), (2, 8)], [(5, 0), (5, 10)])
 ALL = (("most", 0), ("most", 1), ("most", 2), ("most", 3), ("part", 1), ("part", 2), ("part", 3))
 
 
@@ -66,7 +65,7 @@ class ByHand(unittest.TestCase):
 
 
 class BesideOracle(unittest.TestCase):
-    def check_beside_oracle(self, first, second, pays):
+    def check(self, first, second, pays):
         told = ask_last(first, second, pays, *ALL)
         for kind in range(4):
             gain, part = oracle.best(kind, (first, second), pays)
@@ -105,7 +104,7 @@ class Corners(BesideOracle):
         first, second = [(1, 0), (1, 1)], [(95, 4), (5, 94)]
         told = ask_last(first, second, (1, 1), *ALL[:3], *ALL[4:6])
         self.assertEqual(told, [[0, 92, 1], [0, 92, 1], [0, 92, 1], [0, 1, 2], [0, 19, 20]])
-        self.check_beside_oracle(first, second, (1, 1))
+        self.check(first, second, (1, 1))
 
     def test_scores_without_people(self):
         bare = ask_last(*CROSS, (1, 1), *ALL)
@@ -126,77 +125,15 @@ class Corners(BesideOracle):
         self.assertEqual(told, [[0, 2, 1], [0, 1, 1], [0, 1, 1], [0, 1, 1], [0, 1, 1], [0, 1, 1], [0, 1, 1]])
 
     def test_the_largest_numbers(self):
-        self.check_beside_oracle([(99, 99)] * 3 + [(99, 0)], [(99, 99)] * 3 + [(0, 99)], (100, 99))
-        self.check_beside_oracle([(99, 1), (98, 97), (1, 99)], [(1, 98), (97, 2), (99, 95)], (100, 100))
+        self.check([(99, 99)] * 3 + [(99, 0)], [(99, 99)] * 3 + [(0, 99)], (100, 99))
+        self.check([(99, 1), (98, 97), (1, 99)], [(1, 98), (97, 2), (99, 95)], (100, 100))
 
 
-class Numbers:
-    """A row of numbers that is the same each time."""
-
-    def __init__(self):
-        self.now = 12345
-
-    def below(self, top):
-        self.now = (self.now * 1103515245 + 12345) % 2147483648
-        return (self.now >> 12) % top
-
-    def cells(self, scores, top):
-        found = []
-        for _ in range(scores):
-            so, others = self.below(top + 1), self.below(top + 1)
-            shape = self.below(8)
-            found.append(((0, 0), (0, others), (so, 0))[shape] if shape < 3 else (so, others))
-        return found
-
-    def groups(self, scores, top):
-        while True:
-            groups = self.cells(scores, top), self.cells(scores, top)
-            if all(sum(cell[side] for cell in cells) > 0 for cells in groups for side in (0, 1)):
-                return groups
-
-    def pays(self):
-        return ((0, 0), (0, 3), (4, 0), (1, 1), (3, 2), (self.below(101), self.below(101)))[self.below(6)]
-
-
-class BesideAnotherWay(BesideOracle):
-    def check_many(self, scores, many):
-        numbers = Numbers()
-        for case in range(many):
-            first, second = numbers.groups(scores, (2, 4, 9, 99)[case % 4])
-            self.check_beside_oracle(first, second, numbers.pays())
-
-    def test_one_score(self):
-        self.check_many(1, 100)
-
-    def test_two_scores(self):
-        self.check_many(2, 300)
-
-    def test_three_scores(self):
-        self.check_many(3, 120)
-
-    def test_four_scores(self):
-        self.check_many(4, 24)
-
-    def test_all_small_groups_of_two_scores(self):
-        cells = list(product(range(2), repeat=2))
-        groups = [list(pair) for pair in product(cells, repeat=2) if all(map(any, zip(*pair)))]
-        for first, second in product(groups, repeat=2):
-            for pays in ((1, 1), (2, 1), (0, 1), (1, 0)):
-                self.check_beside_oracle(first, second, pays)
+class BesideAnotherWay(Beside, BesideOracle):
+    """All that is beside the oracle, over many groups."""
 
 
 class WhatHolds(unittest.TestCase):
-    def test_the_kinds_among_one_another(self):
-        numbers = Numbers()
-        for case in range(400):
-            groups = numbers.groups(1 + case % 4, (3, 99)[case % 2])
-            told = ask_last(*groups, numbers.pays(), *ALL)
-            freely, part, right, both = [Fraction(gain[1], gain[2]) for gain in told[:4]]
-            self.assertTrue(0 <= both <= right <= freely, groups)
-            self.assertTrue(0 <= part <= freely, groups)
-            for x in told[4:]:
-                self.assertTrue(0 <= Fraction(x[1], x[2]) <= 1, groups)
-
     def test_no_chances_that_meet_a_kind_gain_more(self):
         first, second = [(3, 1), (1, 3)], [(2, 0), (2, 4)]
         rows = {kind: oracle.rows_of(kind, (first, second)) for kind in range(4)}

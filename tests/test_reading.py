@@ -31,7 +31,8 @@ class Reading(unittest.TestCase):
 
     def test_ahead_of_begin_is_ahead_of_every_other_refusal(self):
         wrong = (("count", 2, 9, 100, 100), ("cell", 2, 0), ("pays", 101, 101), ("chances", 2, 0, [TOP] * 255),
-                 ("gains", TOP), ("picked", TOP), ("most", TOP), ("part", 0), ("chances", 0, 0, []))
+                 ("gains", TOP), ("picked", TOP), ("most", TOP), ("part", 0), ("chances", 0, 0, []), ("costs", 4),
+                 ("rule", 4, 2), ("take", 4), ("meets", TOP), ("forpart", 2, 1, 0), ("forhits", 2, 1, 0), ("ifpays", 4, 101, 101))
         self.assertEqual(ask(*wrong), [[-11]] * len(wrong))
 
     def test_a_refused_begin_begins_nothing(self):
@@ -51,25 +52,33 @@ class Reading(unittest.TestCase):
             self.assertEqual(told[2:], [[13], [7, 6]], call)
 
     def test_what_is_handed_in_stays_as_it_was(self):
-        calls = flat(CROWD + [("pays", 3, 2), ("chances", 0, 2, [1, 2]), ("most", 3), ("part", 1), ("count", 9, 9, 9, 9)])
+        calls = flat(CROWD + [("pays", 3, 2), ("chances", 0, 2, [1, 2]), ("most", 3), ("part", 1), ("count", 9, 9, 9, 9)]
+                     + list(OTHERS[8:]))
         before = list(calls)
         answers(calls)
         self.assertEqual(calls, before)
 
     def test_nothing_is_kept_from_one_time_to_the_next(self):
-        calls = flat(CROWD + [("pays", 3, 2), ("chances", 0, 2, [1, 2]), ("gains", 0), ("most", 3)])
+        calls = flat(CROWD + [("pays", 3, 2), ("chances", 0, 2, [1, 2]), ("gains", 0), ("most", 3), ("state",), ("take", 3), ("state",)])
         first = answers(calls)
         self.assertEqual(answers(flat([("gains", 0)])), [1, -11])
         self.assertEqual(answers(calls), first)
         first.append(1)
         self.assertEqual(answers(calls), first[:-1])
-        self.assertEqual(ask(("begin", 1), ("cell", 0, 0), ("gains", 0)), [[0], [0, 0], [0, 0, 1]])
+        self.assertEqual(ask(("begin", 1), ("cell", 0, 0), ("gains", 0), ("state",)),
+                         [[0], [0, 0], [0, 0, 1], [1, 1, 1, 0, 1, 0, 1]])
 
     def test_a_list_of_plain_whole_numbers_is_given_back(self):
         said = answers(flat(CROWD + [("chances", 0, 3, [1, 2]), ("gains", 0), ("picked", 0), ("cell", 0, 1)]
-                            + [("most", kind) for kind in range(5)] + [("part", kind) for kind in range(5)]))
+                            + [("most", kind) for kind in range(5)] + [("part", kind) for kind in range(5)]
+                            + [("meets", kind) for kind in range(5)] + [("rule", kind, 0) for kind in range(5)]
+                            + list(OTHERS[8:])))
         self.assertIs(type(said), list)
         self.assertEqual({type(number) for number in said}, {int})
+
+    def test_how_many_numbers_each_call_answers(self):
+        told = ask(*CROWD, *OTHERS)[len(CROWD):]
+        self.assertEqual([len(answer) for answer in told], [1, 2, 1, 1, 3, 3, 3, 3, 3, 5, 1, 1, 3, 3, 3, 11])
 
     def test_forty_calls(self):
         told = ask(("begin", 4), *[("count", call % 2, call % 4, call, 99) for call in range(38)], ("cell", 1, 1))
